@@ -1,0 +1,1 @@
+"""Batchends: a client and a server that go on after lost connections."""
