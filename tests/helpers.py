@@ -14,6 +14,11 @@ def commands_of(statement, values=(), most=0):
     ]
 
 
+def only(session, *command):
+    """Runs a batch of one command, and returns its reply."""
+    return session.run_batch([command])[1][0]
+
+
 def tell(session, statement, values=()):
     """Runs one statement in a batch of its own, and returns the reply to its run."""
     return session.run_batch(commands_of(statement, values))[1][4]

@@ -3,14 +3,9 @@
 import unittest
 
 from batchends.sessions import Session
-from tests.helpers import in_transaction, numbered, tell
+from tests.helpers import in_transaction, numbered, only, tell
 
 EIGHT = ("a", "b", "c", "d", "e", "f", "g", "h")
-
-
-def only(session, *command):
-    """Runs a batch of one command, and returns its reply."""
-    return session.run_batch([command])[1][0]
 
 
 def prepared(*strings):

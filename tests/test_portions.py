@@ -3,11 +3,7 @@
 import unittest
 
 from batchends.sessions import Session
-from tests.helpers import in_transaction, numbered, state_of, tell
-
-
-def only(session, *command):
-    return session.run_batch([command])[1][0]
+from tests.helpers import in_transaction, numbered, only, state_of, tell
 
 
 def with_portal(statement, rows, values=()):

@@ -3,13 +3,9 @@
 import unittest
 
 from batchends.sessions import Session
-from tests.helpers import commands_of, in_transaction, numbered, state_of, tell, tell_all
+from tests.helpers import commands_of, in_transaction, numbered, only, state_of, tell, tell_all
 
 DONE = ("complete", 0)
-
-
-def only(session, *command):
-    return session.run_batch([command])[1][0]
 
 
 def fail(session):
