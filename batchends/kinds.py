@@ -3,6 +3,7 @@
 LETTERS = "abcdefghijklmnopqrstuvwxyz"
 LONGEST_NAME = 8
 LONGEST_TEXT = 40
+LONGEST_STRING = 200
 LEAST_NUMBER = -2147483648
 GREATEST_NUMBER = 2147483647
 PERCENT = 37
@@ -17,6 +18,10 @@ def has_only_signs(string):
     return all([is_sign(character) for character in string])
 
 
+def may_be_prepared(string):
+    return len(string) <= LONGEST_STRING and has_only_signs(string)
+
+
 def is_name(string):
     return 1 <= len(string) <= LONGEST_NAME and all([letter in LETTERS for letter in string])
 
@@ -27,6 +32,16 @@ def is_text(string):
 
 def is_number(number):
     return LEAST_NUMBER <= number <= GREATEST_NUMBER
+
+
+def is_integer(thing):
+    return isinstance(thing, int) and not isinstance(thing, bool)
+
+
+def is_value(thing):
+    if isinstance(thing, str):
+        return is_text(thing)
+    return is_integer(thing) and is_number(thing)
 
 
 def value_order(value):

@@ -1,9 +1,8 @@
 """Statements: their parts and their parameters."""
 
 from batchends.errors import Unreadable
-from batchends.kinds import has_only_signs, is_name, is_number, is_text
+from batchends.kinds import is_name, is_number, is_text, may_be_prepared
 
-MOST_SIGNS = 200
 PARAMETERS = ("$1", "$2", "$3", "$4")
 
 # For each word what may follow it: T and N are names, X and Y are terms.
@@ -25,7 +24,7 @@ FORMS = {
 
 def parse_statement(string):
     """Returns the tuple of the parts of a statement, or raises Unreadable."""
-    if not isinstance(string, str) or len(string) > MOST_SIGNS or not has_only_signs(string):
+    if not isinstance(string, str) or not may_be_prepared(string):
         raise Unreadable("a statement is a string of at most 200 signs")
     word, *pieces = split_pieces(string)
     form = find_form(word, len(pieces))

@@ -1,4 +1,7 @@
-"""What several tests need: short ways to run statements in a session."""
+"""What several tests need: short ways to run statements in a session, and to write bytes.
+
+The bytes are written here without the program, so that the tests hold it against something.
+"""
 
 from batchends.sessions import Session
 
@@ -47,3 +50,66 @@ def in_transaction(tables=()):
 def numbered(many):
     """So many rows with the keys 1, 2, .. and the entries 10, 20, .."""
     return [(n, 10 * n) for n in range(1, many + 1)]
+
+
+def as_lists(thing):
+    """The same with lists for all tuples."""
+    if isinstance(thing, (list, tuple)):
+        return [as_lists(part) for part in thing]
+    return thing
+
+
+def as_tuples(thing):
+    """The same with tuples for all lists."""
+    if isinstance(thing, (list, tuple)):
+        return tuple([as_tuples(part) for part in thing])
+    return thing
+
+
+def long(number):
+    """A number in 4 bytes."""
+    return list(number.to_bytes(4, "big", signed=number < 0))
+
+
+def string(text):
+    """A string in bytes, whatever its characters are."""
+    return [len(text), *text.encode("latin-1")]
+
+
+def value(thing):
+    return [1, *string(thing)] if isinstance(thing, str) else [0, *long(thing)]
+
+
+def values(*things):
+    return [len(things), *[byte for thing in things for byte in value(thing)]]
+
+
+def packed(kind, *parts):
+    """A message of this kind, whose body has these parts."""
+    body = [byte for part in parts for byte in part]
+    return [kind, *len(body).to_bytes(2, "big"), *body]
+
+
+def hello(session, received):
+    return packed(1, long(session), long(received))
+
+
+def sync(batch, received):
+    return packed(7, long(batch), long(received))
+
+
+def welcome(session, done):
+    return packed(1, long(session), long(done))
+
+
+def refused(word):
+    return packed(2, string(word))
+
+
+def ready(batch, state):
+    return packed(3, long(batch), [("none", "open", "failed").index(state)])
+
+
+def pieces(data, size):
+    """The bytes in pieces of this size."""
+    return [data[at:at + size] for at in range(0, len(data), size)]

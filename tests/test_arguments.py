@@ -5,7 +5,7 @@ import random
 import unittest
 
 from batchends.sessions import Session
-from tests.helpers import in_transaction, numbered, tell
+from tests.helpers import as_lists, as_tuples, in_transaction, numbered, tell
 
 TABLES = [("t", [(1, "one"), ("k", 2)]), ("u", [])]
 COMMANDS = [("prepare", "s", "put t $1 $2"), ("bind", "p", "s", (5, "five")), ("run", "p", 0),
@@ -13,18 +13,6 @@ COMMANDS = [("prepare", "s", "put t $1 $2"), ("bind", "p", "s", (5, "five")), ("
             ("run", "q", 1), ("forget", "s"), ("close", "p")]
 STATEMENTS = ("begin", "commit", "rollback", "save n", "undo n", "scan t", "scan u", "put t $1 $2",
               "put u $2 $1", "delete t $1", "create t", "create u", "drop t", "total t", "get u $1")
-
-
-def as_lists(value):
-    if isinstance(value, (list, tuple)):
-        return [as_lists(part) for part in value]
-    return value
-
-
-def as_tuples(value):
-    if isinstance(value, (list, tuple)):
-        return tuple([as_tuples(part) for part in value])
-    return value
 
 
 def some_command(chance):

@@ -8,13 +8,13 @@ import re
 import unittest
 from pathlib import Path
 
-from batchends import sessions, statements
+from batchends import client, server, sessions, statements, wires
 
 FOLDER = Path(inspect.getfile(sessions)).parent
 BUILTINS = set(
     "len range enumerate zip min max sum abs sorted reversed int str bool bytes list tuple dict "
     "set isinstance ord repr any all divmod ValueError Exception TypeError KeyError IndexError "
-    "LookupError".split()
+    "LookupError property".split()
 )
 BARRED = set("register mro elements open input law version_info with_traceback add_note".split())
 BARRED_WORDS = re.compile(
@@ -47,6 +47,28 @@ class Interface(unittest.TestCase):
             (sessions.Session.run_batch, "(self, commands)"),
             (sessions.Session.tables, "(self)"),
             (sessions.Session.base, "(self)"),
+            (wires.client_bytes, "(message)"),
+            (wires.server_bytes, "(message)"),
+            (wires.Wire, "(side)"),
+            (wires.Wire.feed, "(self, data)"),
+            (client.Client, "()"),
+            (client.Client.prepare, "(self, name, string)"),
+            (client.Client.bind, "(self, portal, name, values)"),
+            (client.Client.run, "(self, portal, most=0)"),
+            (client.Client.forget, "(self, name)"),
+            (client.Client.close, "(self, portal)"),
+            (client.Client.sync, "(self)"),
+            (client.Client.connect, "(self)"),
+            (client.Client.lost, "(self)"),
+            (client.Client.take, "(self, most)"),
+            (client.Client.receive, "(self, data)"),
+            (client.Client.outcome, "(self, batch)"),
+            (server.Server, "()"),
+            (server.Server.accept, "(self)"),
+            (server.Server.lost, "(self)"),
+            (server.Server.take, "(self, most)"),
+            (server.Server.receive, "(self, data)"),
+            (server.Server.tables, "(self)"),
         ):
             with self.subTest(function.__qualname__):
                 self.assertEqual(str(inspect.signature(function)), words)
@@ -55,8 +77,32 @@ class Interface(unittest.TestCase):
         self.assertEqual(statements.parse_statement.__module__, "batchends.statements")
         self.assertEqual(statements.parameters.__module__, "batchends.statements")
         self.assertEqual(sessions.Session.__module__, "batchends.sessions")
-        for name in ("run_batch", "tables", "base"):
-            self.assertIn(name, vars(sessions.Session))
+        self.assertEqual(wires.client_bytes.__module__, "batchends.wires")
+        self.assertEqual(wires.server_bytes.__module__, "batchends.wires")
+        self.assertEqual(wires.Wire.__module__, "batchends.wires")
+        self.assertEqual(client.Client.__module__, "batchends.client")
+        self.assertEqual(server.Server.__module__, "batchends.server")
+
+    def test_methods_are_in_the_classes_themselves(self):
+        for owner, names in (
+            (sessions.Session, "run_batch tables base"),
+            (wires.Wire, "feed"),
+            (client.Client, "prepare bind run forget close sync connect lost take receive outcome"),
+            (server.Server, "accept lost take receive tables"),
+        ):
+            for name in names.split():
+                with self.subTest(owner.__name__, name=name):
+                    self.assertTrue(inspect.isfunction(vars(owner)[name]))
+
+    def test_properties(self):
+        for owner, names in (
+            (client.Client, "phase reason session handed received waiting"),
+            (server.Server, "phase reason session done known waiting"),
+        ):
+            for name in names.split():
+                with self.subTest(owner.__name__, name=name):
+                    self.assertIsInstance(vars(owner)[name], property)
+                    self.assertRaises(AttributeError, setattr, owner(), name, 1)
 
 
 class Readme(unittest.TestCase):
@@ -83,7 +129,8 @@ class Language(unittest.TestCase):
                 if isinstance(node, ast.FunctionDef):
                     with self.subTest(name, function=node.name):
                         self.assertLessEqual(node.end_lineno - node.lineno + 1, 40)
-                        self.assertEqual(node.decorator_list, [])
+                        decorators = [ast.unparse(part) for part in node.decorator_list]
+                        self.assertIn(decorators, ([], ["property"]))
 
     def test_imports(self):
         for name, text in files():
@@ -98,7 +145,8 @@ class Language(unittest.TestCase):
     def test_names(self):
         for name, text in files():
             with self.subTest(name):
-                used = set(names_in(ast.parse(text)))
+                # Doctest makes a builtin of `_`, which stands for what is not used.
+                used = set(names_in(ast.parse(text))) - {"_"}
                 self.assertEqual(used & BARRED, set())
                 self.assertEqual({word for word in used & set(dir(builtins))} - BUILTINS, set())
                 self.assertIsNone(BARRED_WORDS.search(text))
